@@ -4,6 +4,8 @@ from askedjust.desk import answers
 
 BEGIN = [0]
 NEXT = [3]
+RESULT = [6]
+MOST = [9]
 LARGEST = 4294967295
 
 
@@ -18,6 +20,18 @@ def need(q, *conditions):
 
 def answer(q, o):
     return [4, q, o]
+
+
+def forget(q):
+    return [5, q]
+
+
+def ever(q):
+    return [7, q]
+
+
+def always(q):
+    return [8, q]
 
 
 def questions(*sizes):
